@@ -60,6 +60,10 @@ class Canvas:
         top = changed_rows[0]
         return Box(left, top, right + 1 - left, changed_rows[-1] + 1 - top)
 
+    def changed_points(self):
+        """How many points have changed."""
+        return sum([marks.count(CHANGED) for marks in self.marks])
+
     def settle(self, box):
         """Take the points of the rectangle as told: they haven't changed."""
         for y in range(box.y, box.below()):

@@ -6,6 +6,9 @@ BEGIN_CALL = 1
 FILL_CALL = 2
 PUT_CALL = 3
 INPUT_CALL = 4
+OUTPUT_CALL = 5
+EVENT_CALL = 6
+TOLD_CALL = 7
 
 
 class UnknownCall(ValueError):
@@ -64,4 +67,10 @@ def answer(session, reader):
         return [session.put(box[0], box[1], box[2], box[3], reader.row())]
     if call == INPUT_CALL:
         return [session.come(reader.row())]
+    if call == OUTPUT_CALL:
+        return session.output(reader.number())
+    if call == EVENT_CALL:
+        return session.event(reader.number())
+    if call == TOLD_CALL:
+        return session.told()
     raise UnknownCall(f"call {call!r} is not known")

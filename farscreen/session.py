@@ -7,13 +7,17 @@ from farscreen.steps import bytes_come
 
 DONE = 0
 OUT_OF_RANGE = -1
+NOTHING_THERE = -2
+TOO_LONG = -6
 MOST_W = 640
 MOST_H = 480
 COLORS = 16777216
+MOST_OUTPUT = 2097152
+MOST_EVENT = 4096
 
 
 class Session:
-    """Each call answers a number; one below 0 is a refusal, and nothing has happened."""
+    """Each call answers a number, or a list of them; one below 0 is a refusal, and nothing has happened."""
 
     def __init__(self):
         self.canvas = None
@@ -49,3 +53,28 @@ class Session:
         """Bytes come on the line; answers how far it is."""
         bytes_come(self.line, octets)
         return self.line.step
+
+    def output(self, most):
+        """Bytes that wait to be sent, with how many they are before them."""
+        if most < 0 or most > MOST_OUTPUT:
+            return [OUT_OF_RANGE]
+        octets = self.line.give_out(most)
+        return [len(octets)] + octets
+
+    def event(self, most):
+        """What was handed on first: how many bytes, these, and its four numbers."""
+        if most < 0 or most > MOST_EVENT:
+            return [OUT_OF_RANGE]
+        first = self.line.first_event()
+        if first is None:
+            return [NOTHING_THERE]
+        text = first[1]
+        if len(text) > most:
+            return [TOO_LONG]
+        self.line.drop_event()
+        return [len(text)] + text + list(first[0])
+
+    def told(self):
+        """How far the line is, how much waits, how many are handed on, how many points have changed."""
+        line = self.line
+        return [DONE, line.step, line.outbox.held(), len(line.events), self.canvas.changed_points()]

@@ -76,6 +76,6 @@ def take_choice(line, octet):
 def take_share(line):
     """Step 3: whatever the byte is, the screen is shown."""
     line.send(number_octets(line.canvas.w, 2) + number_octets(line.canvas.h, 2))
-    line.send(FIRST_FORM)
+    line.send(list(FIRST_FORM))
     line.send(number_octets(len(line.name), 4) + line.name)
     line.step = STEP_MESSAGES

@@ -3,8 +3,10 @@
 import unittest
 
 from farscreen.screen import answers
-from helper import (HELLO, SMALL, ask_message, begin, came, come, drained, form_message, kept, key_message, ones,
-                    pointer_message, started, text_message, u32, ways_message)
+from farscreen.session import Session
+from helper import (HELLO, SMALL, ask_message, begin, came, events, form_message, key_event, key_message, ones,
+                    pointer_event, pointer_message, seen, seen_by_viewer, started, text_event, text_message, u32, way_of,
+                    ways_message)
 
 READY = begin(20, 10) + came(HELLO + b"\1\1")
 
@@ -54,27 +56,32 @@ def wrong_messages():
     yield from (key_message(down, 65) for down in (2, 3, 255))
 
 
+def all_seen(screen):
+    return (events(screen), seen(screen), seen_by_viewer(screen))
+
+
 class CutTest(unittest.TestCase):
     def test_right_ones_cut_at_every_place(self):
         for message in RIGHT:
             whole = started(20, 10)
-            before = kept(whole)
-            self.assertEqual(come(whole, message), 3, message)
+            before = seen(whole)
+            self.assertEqual(whole.come(message), 3, message)
+            expected = all_seen(whole)
             for place in range(len(message) + 1):
-                session = started(20, 10)
-                self.assertEqual(come(session, message[:place]), 3)
+                screen = started(20, 10)
+                self.assertEqual(screen.come(message[:place]), 3)
                 if place < len(message):
-                    self.assertEqual(kept(session), before, (message, place))
-                self.assertEqual(come(session, message[place:]), 3)
-                self.assertEqual(kept(session), kept(whole), (message, place))
+                    self.assertEqual(seen(screen), before, (message, place))
+                self.assertEqual(screen.come(message[place:]), 3)
+                self.assertEqual(all_seen(screen), expected, (message, place))
 
     def test_right_ones_do_something(self):
         for message in RIGHT:
             if message not in (form_message(), ways_message(), ways_message(7, 16, 2 ** 32 - 239)):
-                session = started(20, 10)
-                before = kept(session)
-                come(session, message)
-                self.assertNotEqual(kept(session), before, message)
+                screen = started(20, 10)
+                before = all_seen(screen)
+                screen.come(message)
+                self.assertNotEqual(all_seen(screen), before, message)
 
     def test_wrong_ones_close_when_all_is_there(self):
         for message in wrong_messages():
@@ -84,19 +91,23 @@ class CutTest(unittest.TestCase):
 
     def test_wrong_ones_do_nothing_but_close(self):
         for message in wrong_messages():
-            session = started(20, 10)
-            before = kept(session)
-            self.assertEqual(come(session, message + key_message(1, 1) + ask_message(0, 0, 0, 1, 1)), 4)
-            self.assertEqual(kept(session), (4,) + before[1:], message)
+            screen = started(20, 10)
+            self.assertEqual(screen.come(message + key_message(1, 1) + ask_message(0, 0, 0, 1, 1)), 4)
+            self.assertEqual(screen.told(), (4, 0, 0, 200), message)
+            screen.fill(0, 0, 20, 10, 5)
+            self.assertEqual(screen.output(), b"")
+            self.assertEqual(screen.event(), [-2])
+            self.assertEqual(screen.told(), (4, 0, 0, 200), message)
 
     def test_all_right_ones_byte_by_byte(self):
-        data = b"".join(RIGHT)
+        data = b"".join(message for message in RIGHT if len(message) < 200)
         whole = started(20, 10)
-        come(whole, data)
-        session = started(20, 10)
+        whole.come(data)
+        screen = started(20, 10)
         for octet in data:
-            self.assertEqual(come(session, bytes([octet])), 3)
-        self.assertEqual(kept(session), kept(whole))
+            screen.calls += came(bytes([octet]))
+        self.assertEqual(screen.come(b""), 3)
+        self.assertEqual(all_seen(screen), all_seen(whole))
 
 
 class UnknownTest(unittest.TestCase):
@@ -105,20 +116,20 @@ class UnknownTest(unittest.TestCase):
             self.assertEqual(answers(READY + came(bytes([first]))), ones(0, 3, 4), first)
 
     def test_behind_another_message(self):
-        session = started(20, 10)
-        self.assertEqual(come(session, key_message(1, 1) + b"\1" + key_message(1, 2)), 4)
-        self.assertEqual(session.line.events, [((1, 1, 1, 0), [])])
-        self.assertEqual(come(session, key_message(1, 2)), 4)
-        self.assertEqual(session.line.events, [((1, 1, 1, 0), [])])
+        screen = started(20, 10)
+        self.assertEqual(screen.come(key_message(1, 1) + b"\1" + key_message(1, 2)), 4)
+        self.assertEqual(events(screen), [key_event(1, 1)])
+        self.assertEqual(screen.come(key_message(1, 2)), 4)
+        self.assertEqual(events(screen), [key_event(1, 1)])
 
     def test_what_waits_is_kept(self):
-        session = started(2, 1)
-        come(session, ask_message(0, 0, 0, 1, 1) + ask_message(0, 0, 0, 2, 1) + b"\7")
-        self.assertEqual(drained(session), b"\0\0\0\1" + b"\0\0\0\0\0\1\0\1" + b"\0\0\0\0" + b"\0\0\0\0")
-        self.assertEqual(drained(session), b"")
-        session.fill(0, 0, 2, 1, 5)
-        session.put(0, 0, 2, 1, [6, 7])
-        self.assertEqual(drained(session), b"")
+        screen = started(2, 1)
+        screen.come(ask_message(0, 0, 0, 1, 1) + ask_message(0, 0, 0, 2, 1) + b"\7")
+        self.assertEqual(screen.output(), b"\0\0\0\1" + b"\0\0\0\0\0\1\0\1" + b"\0\0\0\0" + b"\0\0\0\0")
+        self.assertEqual(screen.output(), b"")
+        screen.fill(0, 0, 2, 1, 5)
+        screen.put(0, 0, 2, 1, [6, 7])
+        self.assertEqual(screen.output(), b"")
 
 
 class FormTest(unittest.TestCase):
@@ -140,68 +151,71 @@ class FormTest(unittest.TestCase):
             self.assertEqual(answers(READY + came(message)), ones(0, 3, 3))
 
     def test_the_first_form(self):
-        session = started(20, 10)
-        before = kept(session)
-        come(session, form_message())
-        self.assertEqual(kept(session), before)
+        screen = started(20, 10)
+        before = all_seen(screen)
+        screen.come(form_message())
+        self.assertEqual(all_seen(screen), before)
 
 
 class WaysTest(unittest.TestCase):
     def test_the_first_that_is_known(self):
         for ways, way in (((0,), 0), ((2,), 2), ((5,), 5), ((5, 2, 0), 5), ((2, 5), 2), ((0, 5), 0), ((1, 3, 4, 6, 5, 2), 5),
                           ((2 ** 32 - 5, 2), 2), ((256 * 5, 65536 * 2, 2 ** 24 * 5, 2 ** 31 + 2), 0), ((16,), 0)):
-            session = started(20, 10)
-            self.assertEqual(come(session, ways_message(*ways, between=9)), 3)
-            self.assertEqual(session.line.way, way, ways)
+            screen = started(20, 10)
+            self.assertEqual(screen.come(ways_message(*ways, between=9)), 3)
+            self.assertEqual(way_of(screen), way, ways)
 
     def test_none_that_is_known_puts_it_back(self):
         for ways in ((), (1,), (7, 6)):
-            session = started(20, 10)
-            come(session, ways_message(5))
-            come(session, ways_message(*ways))
-            self.assertEqual(session.line.way, 0)
+            screen = started(20, 10)
+            screen.come(ways_message(5))
+            self.assertEqual(way_of(screen), 5)
+            screen.come(ways_message(*ways))
+            self.assertEqual(way_of(screen), 0)
 
     def test_many(self):
         ways = [7] * 7000 + [5]
-        session = started(20, 10)
-        self.assertEqual(come(session, ways_message(*ways) + key_message(1, 9)), 3)
-        self.assertEqual(session.line.way, 5)
-        self.assertEqual(session.line.events, [((1, 1, 9, 0), [])])
+        screen = started(20, 10)
+        self.assertEqual(screen.come(ways_message(*ways) + key_message(1, 9)), 3)
+        self.assertEqual(way_of(screen), 5)
+        self.assertEqual(events(screen), [key_event(1, 9)])
 
     def test_the_most(self):
-        ways = [7] * 65534 + [2]
-        data = ways_message(*ways)
-        session = started(20, 10)
-        for place in range(0, len(data), 30000):
-            self.assertEqual(session.line.way, 0)
-            self.assertEqual(come(session, data[place:place + 30000]), 3)
-        self.assertEqual(session.line.way, 2)
+        # No list of calls is so long: the bytes come to the session itself.
+        data = ways_message(*[7] * 65534 + [2])
+        session = Session()
+        session.begin(20, 10, [])
+        session.come(list(HELLO + b"\1\1"))
+        for place in range(0, len(data), 65535):
+            self.assertEqual(session.come(list(data[place:place + 65535])), 3)
+        self.assertEqual(session.come(list(key_message(1, 9) + ask_message(0, 0, 0, 1, 1))), 3)
+        self.assertEqual(session.told(), [0, 3, 42, 1, 200])
+        session.output(42)
+        self.assertEqual(session.output(99), [24, 0, 0, 0, 1, 0, 0, 0, 0, 0, 1, 0, 1, 0, 0, 0, 2] + [0] * 8)
 
 
 class HandedOnTest(unittest.TestCase):
     def test_keys(self):
-        session = started(20, 10)
-        come(session, key_message(1, 0xFF0D) + key_message(0, 0) + key_message(1, 0x01020304, b"\xff\xff"))
-        self.assertEqual(session.line.events, [((1, 1, 0xFF0D, 0), []), ((1, 0, 0, 0), []),
-                                               ((1, 1, 0x01020304, 0), [])])
+        screen = started(20, 10)
+        screen.come(key_message(1, 0xFF0D) + key_message(0, 0) + key_message(1, 0x01020304, b"\xff\xff"))
+        self.assertEqual(events(screen), [key_event(1, 0xFF0D), key_event(0, 0), key_event(1, 0x01020304)])
 
     def test_pointers(self):
-        session = started(20, 10)
-        come(session, pointer_message(0, 0, 0) + pointer_message(255, 65535, 258) + pointer_message(1, 258, 65535))
-        self.assertEqual(session.line.events, [((2, 0, 0, 0), []), ((2, 255, 65535, 258), []),
-                                               ((2, 1, 258, 65535), [])])
+        screen = started(20, 10)
+        screen.come(pointer_message(0, 0, 0) + pointer_message(255, 65535, 258) + pointer_message(1, 258, 65535))
+        self.assertEqual(events(screen), [pointer_event(0, 0, 0), pointer_event(255, 65535, 258),
+                                          pointer_event(1, 258, 65535)])
 
     def test_texts(self):
-        session = started(20, 10)
-        come(session, text_message(b"") + text_message(b"abc") + text_message(b"\0\xff", b"xyz"))
-        self.assertEqual(session.line.events, [((3, 0, 0, 0), []), ((3, 3, 0, 0), list(b"abc")),
-                                               ((3, 2, 0, 0), [0, 255])])
+        screen = started(20, 10)
+        screen.come(text_message(b"") + text_message(b"abc") + text_message(b"\0\xff", b"xyz"))
+        self.assertEqual(events(screen), [text_event(b""), text_event(b"abc"), text_event(b"\0\xff")])
 
     def test_longest_text(self):
         text = bytes(place % 256 for place in range(4096))
-        session = started(20, 10)
-        self.assertEqual(come(session, text_message(text) + key_message(0, 1)), 3)
-        self.assertEqual(session.line.events, [((3, 4096, 0, 0), list(text)), ((1, 0, 1, 0), [])])
+        screen = started(20, 10)
+        self.assertEqual(screen.come(text_message(text) + key_message(0, 1)), 3)
+        self.assertEqual(events(screen), [text_event(text), key_event(0, 1)])
 
     def test_longer_text_closes_as_soon_as_its_length_is_there(self):
         for length in (4097, 65536, 2 ** 24, 2 ** 31, 2 ** 32 - 1):
@@ -209,21 +223,6 @@ class HandedOnTest(unittest.TestCase):
             for place in range(1, 8):
                 calls = READY + came(head[:place]) + came(head[place:]) + came(b"")
                 self.assertEqual(answers(calls), ones(0, 3, 3, 4, 4))
-
-    def test_sixty_four_are_kept(self):
-        session = started(20, 10)
-        come(session, b"".join(key_message(1, key) for key in range(63)) + pointer_message(1, 2, 3))
-        self.assertEqual(len(session.line.events), 64)
-        self.assertEqual(come(session, key_message(1, 99) + pointer_message(9, 9, 9) + text_message(b"lost")), 3)
-        self.assertEqual(len(session.line.events), 64)
-        self.assertEqual(session.line.events[0], ((1, 1, 0, 0), []))
-        self.assertEqual(session.line.events[62], ((1, 1, 62, 0), []))
-        self.assertEqual(session.line.events[63], ((2, 1, 2, 3), []))
-
-    def test_order_of_kinds(self):
-        session = started(20, 10)
-        come(session, pointer_message(1, 2, 3) + text_message(b"t") + key_message(0, 7))
-        self.assertEqual([event[0][0] for event in session.line.events], [2, 3, 1])
 
 
 if __name__ == "__main__":

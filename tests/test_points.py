@@ -2,23 +2,23 @@
 
 import unittest
 
-from helper import SMALL, form_message, started, told, told_points
+from helper import SMALL, form_message, sent_after, started, told_points
 
 COLORS = (0x000000, 0xFFFFFF, 0xFF0000, 0x00FF00, 0x0000FF, 0x123456)
 
 
 def points_in(colors, **form):
-    session = started(len(colors), 1)
-    told(session, form_message(**form))
-    session.put(0, 0, len(colors), 1, list(colors))
-    return told_points(session, 0, 0, len(colors), 1).hex(" ", form.get("bits", 32) // 8)
+    screen = started(len(colors), 1)
+    sent_after(screen, form_message(**form))
+    screen.put(0, 0, len(colors), 1, list(colors))
+    return told_points(screen, 0, 0, len(colors), 1).hex(" ", form.get("bits", 32) // 8)
 
 
 class PointTest(unittest.TestCase):
     def test_first_form(self):
-        session = started(6, 1)
-        session.put(0, 0, 6, 1, list(COLORS))
-        self.assertEqual(told_points(session, 0, 0, 6, 1).hex(" ", 4), "00000000 ffffff00 0000ff00 00ff0000 ff000000 56341200")
+        screen = started(6, 1)
+        screen.put(0, 0, 6, 1, list(COLORS))
+        self.assertEqual(told_points(screen, 0, 0, 6, 1).hex(" ", 4), "00000000 ffffff00 0000ff00 00ff0000 ff000000 56341200")
 
     def test_32_bits(self):
         self.assertEqual(points_in(COLORS, order=0), "00000000 ffffff00 0000ff00 00ff0000 ff000000 56341200")
@@ -57,13 +57,13 @@ class PointTest(unittest.TestCase):
         self.assertEqual(points_in([shade * 256 for shade in shades], **form), expected)
 
     def test_what_is_told_later_is_in_the_later_form(self):
-        session = started(1, 1)
-        session.fill(0, 0, 1, 1, 0xFF0000)
-        self.assertEqual(told_points(session, 0, 0, 1, 1), b"\0\0\xff\0")
-        told(session, form_message(**SMALL))
-        self.assertEqual(told_points(session, 0, 0, 1, 1), b"\xe0")
-        told(session, form_message(order=1))
-        self.assertEqual(told_points(session, 0, 0, 1, 1), b"\0\xff\0\0")
+        screen = started(1, 1)
+        screen.fill(0, 0, 1, 1, 0xFF0000)
+        self.assertEqual(told_points(screen, 0, 0, 1, 1), b"\0\0\xff\0")
+        sent_after(screen, form_message(**SMALL))
+        self.assertEqual(told_points(screen, 0, 0, 1, 1), b"\xe0")
+        sent_after(screen, form_message(order=1))
+        self.assertEqual(told_points(screen, 0, 0, 1, 1), b"\0\xff\0\0")
 
 
 if __name__ == "__main__":

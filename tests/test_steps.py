@@ -3,7 +3,7 @@
 import unittest
 
 from farscreen.screen import answers
-from helper import FIRST_FORM, HELLO, VERSIONS, begin, begun, came, come, drained, kept, ones, u16, u32
+from helper import FIRST_FORM, HELLO, VERSIONS, begin, begun, came, events, ones, pointer_event, seen, u16, u32
 
 
 def one_by_one(data):
@@ -12,17 +12,17 @@ def one_by_one(data):
 
 class HelloTest(unittest.TestCase):
     def test_hello_is_sent_at_the_beginning(self):
-        self.assertEqual(drained(begun(3, 2)), b"RFB 003.008\n")
+        self.assertEqual(begun(3, 2).output(), b"RFB 003.008\n")
 
     def test_no_byte_at_all(self):
         self.assertEqual(answers(begin(1, 1) + came(b"") + came(b"")), ones(0, 0, 0))
 
     def test_known_versions(self):
         for version, step, sent in ((3, 2, b"\0\0\0\1"), (7, 1, b"\1\1"), (8, 1, b"\1\1")):
-            session = begun(3, 2)
-            drained(session)
-            self.assertEqual(come(session, VERSIONS[version]), step)
-            self.assertEqual(drained(session), sent)
+            screen = begun(3, 2)
+            screen.output()
+            self.assertEqual(screen.come(VERSIONS[version]), step)
+            self.assertEqual(screen.output(), sent)
 
     def test_looked_at_when_all_are_there(self):
         for version, step in ((3, 2), (7, 1), (8, 1)):
@@ -35,49 +35,49 @@ class HelloTest(unittest.TestCase):
                  b"RFB 003:008\n", b"RFB 003.08\n\n", b"\0" * 12, b"\xff" * 12]
         wrong += [HELLO[:place] + bytes([HELLO[place] ^ 128]) + HELLO[place + 1:] for place in range(12)]
         for data in wrong:
-            session = begun(3, 2)
-            drained(session)
-            self.assertEqual(come(session, data[:11]), 0, data)
-            self.assertEqual(come(session, data[11:]), 4, data)
-            self.assertEqual(drained(session), b"")
+            screen = begun(3, 2)
+            screen.output()
+            self.assertEqual(screen.come(data[:11]), 0, data)
+            self.assertEqual(screen.come(data[11:]), 4, data)
+            self.assertEqual(screen.output(), b"")
 
     def test_each_cut(self):
         for version in VERSIONS:
             whole = begun(3, 2)
-            come(whole, VERSIONS[version])
+            whole.come(VERSIONS[version])
             for place in range(13):
-                session = begun(3, 2)
-                come(session, VERSIONS[version][:place])
-                come(session, VERSIONS[version][place:])
-                self.assertEqual(kept(session), kept(whole))
+                screen = begun(3, 2)
+                screen.come(VERSIONS[version][:place])
+                screen.come(VERSIONS[version][place:])
+                self.assertEqual(seen(screen), seen(whole))
 
     def test_nothing_is_looked_at_after_close(self):
-        session = begun(3, 2)
-        self.assertEqual(come(session, b"RFB 003.005\n" + HELLO + b"\1\1"), 4)
-        self.assertEqual(come(session, HELLO + b"\1\1"), 4)
-        self.assertEqual(come(session, b""), 4)
+        screen = begun(3, 2)
+        self.assertEqual(screen.come(b"RFB 003.005\n" + HELLO + b"\1\1"), 4)
+        self.assertEqual(screen.come(HELLO + b"\1\1"), 4)
+        self.assertEqual(screen.come(b""), 4)
         # What waited before the close is still there.
-        self.assertEqual(drained(session), HELLO)
+        self.assertEqual(screen.output(), HELLO)
 
 
 class ChoiceTest(unittest.TestCase):
     def test_right(self):
         for version, sent in ((7, b""), (8, b"\0\0\0\0")):
-            session = begun(3, 2)
-            come(session, VERSIONS[version])
-            drained(session)
-            self.assertEqual(come(session, b"\1"), 2)
-            self.assertEqual(drained(session), sent)
+            screen = begun(3, 2)
+            screen.come(VERSIONS[version])
+            screen.output()
+            self.assertEqual(screen.come(b"\1"), 2)
+            self.assertEqual(screen.output(), sent)
 
     def test_wrong(self):
         for version, sent in ((7, b""), (8, b"\0\0\0\1\0\0\0\7unknown")):
             for octet in (0, 2, 3, 16, 49, 255):
-                session = begun(3, 2)
-                come(session, VERSIONS[version])
-                drained(session)
-                self.assertEqual(come(session, bytes([octet]) + b"\1\1"), 4)
-                self.assertEqual(come(session, b"\1\1"), 4)
-                self.assertEqual(drained(session), sent)
+                screen = begun(3, 2)
+                screen.come(VERSIONS[version])
+                screen.output()
+                self.assertEqual(screen.come(bytes([octet]) + b"\1\1"), 4)
+                self.assertEqual(screen.come(b"\1\1"), 4)
+                self.assertEqual(screen.output(), sent)
 
     def test_wrong_with_more_behind(self):
         calls = begin(1, 1) + came(HELLO) + came(b"\2") + came(b"\1") + came(b"\1")
@@ -96,11 +96,11 @@ class ShareTest(unittest.TestCase):
 
     def test_what_is_sent(self):
         for w, h, name in ((1, 1, b""), (640, 480, b"a"), (300, 257, bytes(range(192, 256))), (256, 255, b"\0\n")):
-            session = begun(w, h, name)
-            come(session, HELLO + b"\1")
-            drained(session)
-            self.assertEqual(come(session, b"\0"), 3)
-            self.assertEqual(drained(session), u16(w) + u16(h) + FIRST_FORM + u32(len(name)) + name)
+            screen = begun(w, h, name)
+            screen.come(HELLO + b"\1")
+            screen.output()
+            self.assertEqual(screen.come(b"\0"), 3)
+            self.assertEqual(screen.output(), u16(w) + u16(h) + FIRST_FORM + u32(len(name)) + name)
 
 
 class AllStepsTest(unittest.TestCase):
@@ -110,22 +110,22 @@ class AllStepsTest(unittest.TestCase):
 
     def test_all_at_once(self):
         for version, data in ((3, b"\0"), (7, b"\1\0"), (8, b"\1\0")):
-            session = begun(3, 2, b"me")
-            self.assertEqual(come(session, VERSIONS[version] + data), 3)
-            self.assertEqual(drained(session), self.sent(version))
+            screen = begun(3, 2, b"me")
+            self.assertEqual(screen.come(VERSIONS[version] + data), 3)
+            self.assertEqual(screen.output(), self.sent(version))
             self.assertEqual(answers(begin(3, 2) + came(VERSIONS[version] + data)), ones(0, 3))
 
     def test_byte_by_byte(self):
         for version, data in ((3, b"\0"), (7, b"\1\0"), (8, b"\1\0")):
-            session = begun(3, 2, b"me")
-            steps = [come(session, bytes([octet])) for octet in VERSIONS[version] + data]
+            screen = begun(3, 2, b"me")
+            steps = [screen.come(bytes([octet])) for octet in VERSIONS[version] + data]
             self.assertEqual(steps, [0] * 11 + ([2, 3] if version == 3 else [1, 2, 3]))
-            self.assertEqual(drained(session), self.sent(version))
+            self.assertEqual(screen.output(), self.sent(version))
 
     def test_messages_in_the_same_input(self):
-        session = begun(3, 2)
-        self.assertEqual(come(session, HELLO + b"\1\1" + b"\5\1\0\2\0\3" + b"\4\1"), 3)
-        self.assertEqual(session.line.events, [((2, 1, 2, 3), [])])
+        screen = begun(3, 2)
+        self.assertEqual(screen.come(HELLO + b"\1\1" + b"\5\1\0\2\0\3" + b"\4\1"), 3)
+        self.assertEqual(events(screen), [pointer_event(1, 2, 3)])
 
 
 if __name__ == "__main__":

@@ -3,7 +3,7 @@
 import random
 import unittest
 
-from helper import SMALL, ask_message, form_message, started, told, told_points, ways_message
+from helper import SMALL, ask_message, form_message, sent_after, started, told_points, ways_message
 
 # Colors, by the letters in which the tests draw; in the form SMALL they are the points below.
 LETTERS = {".": 0x000000, "w": 0xFFFFFF, "r": 0xFF0000, "g": 0x00FF00, "b": 0x0000FF, "v": 0xFEFEFE}
@@ -16,17 +16,17 @@ NARROW = {"order": 0}
 
 
 def drawn(rows, way, form):
-    """A session whose screen shows these rows of letters."""
-    session = started(len(rows[0]), len(rows))
-    told(session, form_message(**form), ways_message(way))
-    session.put(0, 0, len(rows[0]), len(rows), [LETTERS[letter] for row in rows for letter in row])
-    return session
+    """A screen whose screen shows these rows of letters."""
+    screen = started(len(rows[0]), len(rows))
+    sent_after(screen, form_message(**form), ways_message(way))
+    screen.put(0, 0, len(rows[0]), len(rows), [LETTERS[letter] for row in rows for letter in row])
+    return screen
 
 
 def shown(rows, way, form=None):
     """The bytes of the whole screen's points."""
-    session = drawn(rows, way, SMALL if form is None else form)
-    return list(told_points(session, 0, 0, len(rows[0]), len(rows)))
+    screen = drawn(rows, way, SMALL if form is None else form)
+    return list(told_points(screen, 0, 0, len(rows[0]), len(rows)))
 
 
 def tile(*rows, w=16, h=16):
@@ -42,8 +42,8 @@ def beside(*tiles):
 class WayHeadTest(unittest.TestCase):
     def test_the_way_is_sent(self):
         for way in (0, 2, 5):
-            session = drawn(["...", "..."], way, SMALL)
-            sent = told(session, ask_message(0, 1, 0, 2, 2))
+            screen = drawn(["...", "..."], way, SMALL)
+            sent = sent_after(screen, ask_message(0, 1, 0, 2, 2))
             self.assertEqual(sent[:16], bytes([0, 0, 0, 1, 0, 1, 0, 0, 0, 2, 0, 2, 0, 0, 0, way]))
 
 
@@ -55,8 +55,8 @@ class PlainTest(unittest.TestCase):
         self.assertEqual(shown(["r", "g"], 0, WIDE), [0, 255, 0, 0, 0, 0, 255, 0])
 
     def test_a_part(self):
-        session = drawn([".wr.", "gb.w", "rrgg"], 0, SMALL)
-        self.assertEqual(list(told_points(session, 1, 1, 3, 2)), [BLUE, BLACK, WHITE, RED, GREEN, GREEN])
+        screen = drawn([".wr.", "gb.w", "rrgg"], 0, SMALL)
+        self.assertEqual(list(told_points(screen, 1, 1, 3, 2)), [BLUE, BLACK, WHITE, RED, GREEN, GREEN])
 
 
 class RunsTest(unittest.TestCase):
@@ -90,12 +90,12 @@ class RunsTest(unittest.TestCase):
         self.assertEqual(shown(["wrwrwbbbb"], 2)[:5], [0, 0, 0, 5, BLUE])
 
     def test_places_are_in_the_rectangle(self):
-        session = drawn(["rrrrr", "r...r", "r.w.r"], 2, SMALL)
-        self.assertEqual(list(told_points(session, 1, 1, 3, 2)), [0, 0, 0, 1, BLACK, WHITE, 0, 1, 0, 1, 0, 1, 0, 1])
+        screen = drawn(["rrrrr", "r...r", "r.w.r"], 2, SMALL)
+        self.assertEqual(list(told_points(screen, 1, 1, 3, 2)), [0, 0, 0, 1, BLACK, WHITE, 0, 1, 0, 1, 0, 1, 0, 1])
 
     def test_the_ground_is_the_rectangle_s(self):
-        session = drawn(["rrrrr", "rgg.r"], 2, SMALL)
-        self.assertEqual(list(told_points(session, 1, 1, 3, 1)), [0, 0, 0, 1, GREEN, BLACK, 0, 2, 0, 0, 0, 1, 0, 1])
+        screen = drawn(["rrrrr", "rgg.r"], 2, SMALL)
+        self.assertEqual(list(told_points(screen, 1, 1, 3, 1)), [0, 0, 0, 1, GREEN, BLACK, 0, 2, 0, 0, 0, 1, 0, 1])
 
     def test_points_of_other_sizes(self):
         run = [0, 0, 0, 1, 0, 2, 0, 1]
@@ -111,17 +111,16 @@ class RunsTest(unittest.TestCase):
             0, 0, 0, 2, RED, WHITE, 0, 0, 0, 0, 0, 1, 0, 1, WHITE, 0, 1, 0, 0, 0, 1, 0, 1])
 
     def test_numbers_of_two_bytes(self):
-        session = started(640, 480)
-        told(session, form_message(**SMALL), ways_message(2))
-        session.fill(320, 400, 300, 1, 0xFFFFFF)
-        self.assertEqual(list(told_points(session, 0, 0, 640, 480)), [0, 0, 0, 1, BLACK, WHITE, 1, 64, 1, 144, 1, 44, 0, 1])
+        screen = started(640, 480)
+        sent_after(screen, form_message(**SMALL), ways_message(2))
+        screen.fill(320, 400, 300, 1, 0xFFFFFF)
+        self.assertEqual(list(told_points(screen, 0, 0, 640, 480)), [0, 0, 0, 1, BLACK, WHITE, 1, 64, 1, 144, 1, 44, 0, 1])
 
     def test_numbers_of_runs_of_two_bytes(self):
-        session = started(640, 2)
-        told(session, form_message(**SMALL), ways_message(2))
-        for x in range(1, 640, 2):
-            session.fill(x, 0, 1, 1, 0xFFFFFF)
-        self.assertEqual(list(told_points(session, 0, 0, 640, 2))[:5], [0, 0, 1, 64, BLACK])
+        screen = started(640, 2)
+        sent_after(screen, form_message(**SMALL), ways_message(2))
+        screen.put(0, 0, 640, 1, [0, 0xFFFFFF] * 320)
+        self.assertEqual(list(told_points(screen, 0, 0, 640, 2))[:5], [0, 0, 1, 64, BLACK])
 
 
 class TilesTest(unittest.TestCase):
@@ -199,15 +198,15 @@ class TilesTest(unittest.TestCase):
 
     def test_a_rectangle_that_is_not_at_the_corner(self):
         rows = ["." * 40 for row in range(5)] + ["." * 20 + "w" * 5 + "." * 15] + ["." * 40 for row in range(30)]
-        session = drawn(rows, 5, SMALL)
+        screen = drawn(rows, 5, SMALL)
         # From x 3 on, the tiles begin at 3 and 19: the run is the second tile's.
-        self.assertEqual(list(told_points(session, 3, 2, 32, 17)),
+        self.assertEqual(list(told_points(screen, 3, 2, 32, 17)),
                          [2, BLACK, 12, WHITE, 1, 0x13, 0x40, 0, 0])
 
     def test_each_rectangle_begins_with_nothing_left(self):
-        session = drawn(tile(".ww"), 5, SMALL)
+        screen = drawn(tile(".ww"), 5, SMALL)
         for times in range(2):
-            self.assertEqual(list(told_points(session, 0, 0, 16, 16)), [14, BLACK, WHITE, 1, 0x10, 0x10])
+            self.assertEqual(list(told_points(screen, 0, 0, 16, 16)), [14, BLACK, WHITE, 1, 0x10, 0x10])
 
     def test_colors_not_points_are_compared(self):
         # w and v are the same point in this form, but other colors.
@@ -273,11 +272,11 @@ class PointsInsteadTest(unittest.TestCase):
                          [14, BLACK, WHITE, 1, 0x10, 0x10] + points + [2, BLACK, 12, WHITE, 1, 0x10, 0x10])
 
     def test_all_points_of_other_colors(self):
-        session = started(16, 16)
-        told(session, ways_message(5))
-        session.put(0, 0, 16, 16, list(range(256)))
+        screen = started(16, 16)
+        sent_after(screen, ways_message(5))
+        screen.put(0, 0, 16, 16, list(range(256)))
         expected = b"\1" + b"".join(color.to_bytes(4, "little") for color in range(256))
-        self.assertEqual(told_points(session, 0, 0, 16, 16), expected)
+        self.assertEqual(told_points(screen, 0, 0, 16, 16), expected)
 
     def test_many_runs_of_one_color(self):
         # 120 runs: 4 + 240 bytes against 257; 127 runs: 4 + 254 bytes.
@@ -362,24 +361,24 @@ class ReadBackTest(unittest.TestCase):
         for times in range(120):
             w, h = chance.randint(1, 50), chance.randint(1, 40)
             palette = [chance.choice(list(LETTERS.values())) for color in range(chance.randint(1, 4))]
-            session = started(w, h)
+            screen = started(w, h)
             way = chance.choice((2, 5))
             form = chance.choice((HIGH, LOW, WIDE, NARROW, SMALL))
-            told(session, form_message(**form), ways_message(way))
+            sent_after(screen, form_message(**form), ways_message(way))
             for fills in range(chance.randint(0, 30)):
                 x, y = chance.randrange(w), chance.randrange(h)
-                session.fill(x, y, chance.randint(1, min(6, w - x)), chance.randint(1, min(3, h - y)),
+                screen.fill(x, y, chance.randint(1, min(6, w - x)), chance.randint(1, min(3, h - y)),
                              chance.choice(palette))
             if times % 3 == 0:
-                session.put(0, 0, w, h // 2 + 1, [chance.choice(palette) for point in range(w * (h // 2 + 1))])
+                screen.put(0, 0, w, h // 2 + 1, [chance.choice(palette) for point in range(w * (h // 2 + 1))])
             x, y = chance.randrange(w), chance.randrange(h)
             wide, high = chance.randint(1, w - x), chance.randint(1, h - y)
             size = form.get("bits", 32) // 8
-            reader = Reader(told_points(session, x, y, wide, high), size, wide, high)
+            reader = Reader(told_points(screen, x, y, wide, high), size, wide, high)
             rows = reader.read(way)
             self.assertEqual(reader.place, len(reader.data))
-            told(session, ways_message(0))
-            plain = Reader(told_points(session, x, y, wide, high), size, wide, high)
+            sent_after(screen, ways_message(0))
+            plain = Reader(told_points(screen, x, y, wide, high), size, wide, high)
             self.assertEqual(rows, plain.read(0))
 
 
